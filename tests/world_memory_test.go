@@ -269,6 +269,17 @@ func TestCalmIsTheSameAtEachRun(t *testing.T) {
 	}
 }
 
+// mustLeaveNobody fails if, when all others had their turn, more run than before.
+func mustLeaveNobody(t *testing.T, before int) {
+	t.Helper()
+	for end := time.Now().Add(20 * time.Second); runtime.NumGoroutine() > before && time.Now().Before(end); {
+		time.Sleep(time.Millisecond)
+	}
+	if now := runtime.NumGoroutine(); now > before {
+		t.Error("some are left:", before, now)
+	}
+}
+
 // What was answered stays as it is, and nobody of those who forced is left, when all others had their turn.
 func TestACalmJoinsAllThatItLetsRun(t *testing.T) {
 	before := runtime.NumGoroutine()
@@ -278,12 +289,7 @@ func TestACalmJoinsAllThatItLetsRun(t *testing.T) {
 	for range 300 {
 		answers = append(answers, impl.WorldCalm(w, 9))
 	}
-	for end := time.Now().Add(20 * time.Second); runtime.NumGoroutine() > before && time.Now().Before(end); {
-		time.Sleep(time.Millisecond)
-	}
-	if now := runtime.NumGoroutine(); now > before {
-		t.Error("some are left:", before, now)
-	}
+	mustLeaveNobody(t, before)
 	for _, got := range answers {
 		if !sameWorld(got, want) {
 			t.Fatal(got)
